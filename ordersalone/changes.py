@@ -1,8 +1,9 @@
-"""The calls that begin and that change what is told. Each answers a list of numbers."""
+"""The calls that begin, that change what is told, and that take a change back. Each answers a list of numbers."""
 
 from ordersalone.hearing import heard_pairs
 from ordersalone.refusals import NONE_THERE
 from ordersalone.refusals import NOT_AS_TOLD
+from ordersalone.refusals import NO_CHANGE
 from ordersalone.refusals import NO_SUCH
 from ordersalone.refusals import ONLY_ONE
 from ordersalone.refusals import RING
@@ -56,3 +57,10 @@ def without(record, i):
     left = [pair for pair in heard_pairs(record.table()) if i not in pair]
     record.change(record.size - 1, [(number_without(a, i), number_without(b, i)) for a, b in left])
     return [record.size]
+
+
+def back(record):
+    if not record.earlier:
+        return [NO_CHANGE]
+    record.take_back()
+    return [len(record.earlier)]

@@ -1,16 +1,27 @@
 """The calls as they are handed in, one behind another, and their answers."""
 
+from ordersalone.changes import back
 from ordersalone.changes import begin
 from ordersalone.changes import tell
 from ordersalone.changes import turn
 from ordersalone.changes import untell
 from ordersalone.changes import without
+from ordersalone.looks import fewest
+from ordersalone.looks import first
+from ordersalone.looks import fits
 from ordersalone.looks import heard
+from ordersalone.looks import line
 from ordersalone.looks import links
+from ordersalone.looks import most_apart
+from ordersalone.looks import most_in_row
 from ordersalone.looks import order
 from ordersalone.looks import orders
 from ordersalone.looks import pairs
 from ordersalone.looks import past
+from ordersalone.looks import place
+from ordersalone.looks import places_on_line
+from ordersalone.looks import sooner
+from ordersalone.looks import state
 from ordersalone.looks import told
 from ordersalone.record import Record
 from ordersalone.refusals import NOT_BEGUN
@@ -28,6 +39,15 @@ LINKS = 9
 ORDERS = 10
 ORDER = 11
 FITS = 12
+FIRST = 13
+SOONER = 14
+PLACE = 15
+LINE = 16
+EVENTS = 17
+FEWEST = 18
+ROW = 19
+APART = 20
+BACK = 21
 
 # How many whole numbers stand behind each call's own number; that of fits tells how long its row is.
 WIDTHS = (1, 2, 2, 0, 1, 0, 2, 0, 1, 0, 0, 1, 1, 0, 2, 1, 0, 0, 0, 0, 0, 0, 0)
@@ -48,10 +68,12 @@ def answer_change(record, call, given):
         return untell(record, given[0], given[1])
     if call == TURN:
         return turn(record)
-    return without(record, given[0])
+    if call == WITHOUT:
+        return without(record, given[0])
+    return back(record)
 
 
-def answer_look(record, call, given):
+def answer_hearing(record, call, given):
     if call == TOLD:
         return told(record)
     if call == HEARD:
@@ -62,11 +84,33 @@ def answer_look(record, call, given):
         return past(record, given[0])
     if call == LINKS:
         return links(record)
+    return first(record)
+
+
+def answer_orders(record, call, given):
     if call == ORDERS:
         return orders(record)
     if call == ORDER:
         return order(record, given[0])
-    raise NotImplementedError(f"call {call} is not written yet")
+    if call == FITS:
+        return fits(record, given[1:])
+    if call == SOONER:
+        return sooner(record, given[0], given[1])
+    return place(record, given[0])
+
+
+def answer_whole(record, call):
+    if call == LINE:
+        return line(record)
+    if call == EVENTS:
+        return places_on_line(record)
+    if call == FEWEST:
+        return fewest(record)
+    if call == ROW:
+        return most_in_row(record)
+    if call == APART:
+        return most_apart(record)
+    return state(record)
 
 
 def answer_call(record, call, given):
@@ -74,9 +118,13 @@ def answer_call(record, call, given):
         return begin(record, given[0])
     if not record.begun():
         return [NOT_BEGUN]
-    if call <= WITHOUT:
+    if call <= WITHOUT or call == BACK:
         return answer_change(record, call, given)
-    return answer_look(record, call, given)
+    if call <= LINKS or call == FIRST:
+        return answer_hearing(record, call, given)
+    if call <= PLACE:
+        return answer_orders(record, call, given)
+    return answer_whole(record, call)
 
 
 def answers(calls):

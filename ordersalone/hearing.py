@@ -36,3 +36,12 @@ def link_pairs(table):
 def past_events(table, i):
     """The events of which one can have heard at i, rising; i itself is not among them."""
     return [j for j in range(len(table)) if table[j][i]]
+
+
+def first_events(table):
+    """The events at which one can have heard of none, rising."""
+    return [event for event in range(len(table)) if not past_events(table, event)]
+
+
+def one_heard_of_the_other(table, i, j):
+    return table[i][j] or table[j][i]

@@ -32,3 +32,9 @@ class Record:
         self.earlier = (self.earlier + [(self.size, self.told_pairs)])[-MOST_CHANGES:]
         self.size = size
         self.told_pairs = told_pairs
+
+    def take_back(self):
+        last_one = self.earlier[-1]
+        self.earlier = self.earlier[:-1]
+        self.size = last_one[0]
+        self.told_pairs = last_one[1]

@@ -25,3 +25,21 @@ def all_orders(table):
     for place in range(len(table)):
         rows = one_longer(rows, pasts)
     return rows
+
+
+def may_have_come(table, row):
+    """Whether at no event of the row one can have heard of one that stands behind it."""
+    for place, event in enumerate(row):
+        if any([table[later][event] for later in row[place + 1:]]):
+            return False
+    return True
+
+
+def how_often_sooner(rows, i, j):
+    """In how many of the orders i comes ahead of j."""
+    return len([row for row in rows if row.index(i) < row.index(j)])
+
+
+def how_often_at_each_place(rows, event):
+    places = [row.index(event) for row in rows]
+    return [places.count(place) for place in range(len(rows[0]))]

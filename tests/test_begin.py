@@ -1,6 +1,6 @@
 import unittest
 
-from tests.helper import GREATEST, LOOKS, NAMES, ask, last
+from tests.helper import GREATEST, NAMES, Unchanged, ask, last, telling
 
 EVERY_OTHER = [
     ("tell", 0, 1), ("untell", 0, 1), ("turn",), ("without", 0), ("told",), ("heard", 0, 1), ("pairs",), ("past", 0),
@@ -9,11 +9,12 @@ EVERY_OTHER = [
 ]
 
 
-class Begin(unittest.TestCase):
+class Begin(Unchanged):
 
     def test_one_to_six_events(self):
         for n in range(1, 7):
             self.assertEqual(ask(("begin", n), ("past", n - 1), ("past", n)), [[0], [0], [-2]])
+            self.assertEqual(ask(("begin", n), ("state",)), [[0], [n, 0, 0]])
 
     def test_nothing_is_told(self):
         self.assertEqual(
@@ -33,10 +34,8 @@ class Begin(unittest.TestCase):
 
     def test_refused_again_all_is_as_it_was(self):
         for n in (0, 7, GREATEST):
-            found = ask(("begin", 3), ("tell", 2, 0), *LOOKS, ("begin", n), *LOOKS)
-            self.assertEqual(found[7], [-22])
-            self.assertEqual(found[2:7], found[8:])
-            self.assertEqual(found[8], [1, 2, 0])
+            self.refused(telling(3, [(2, 0)]), ("begin", n), -22)
+            self.assertEqual(ask(*telling(3, [(2, 0)]), ("begin", n), ("told",))[2:], [[-22], [1, 2, 0]])
 
 
 class NotBegun(unittest.TestCase):

@@ -1,16 +1,6 @@
 import unittest
 
-from tests.helper import GREATEST, LOOKS, ask, flat, last, telling
-
-
-class Unchanged(unittest.TestCase):
-
-    def refused(self, calls, call, number):
-        """The call is refused with this number, and all is as it was."""
-        found = ask(*calls, *LOOKS, call, *LOOKS)
-        at = len(calls) + len(LOOKS)
-        self.assertEqual(found[at], [number])
-        self.assertEqual(found[at - len(LOOKS):at], found[at + 1:])
+from tests.helper import GREATEST, LOOKS, Unchanged, ask, flat, last, telling
 
 
 class Tell(Unchanged):
@@ -115,7 +105,7 @@ class Turn(unittest.TestCase):
 
     def test_turned_twice_all_is_as_it_was(self):
         found = ask(*telling(5, [(4, 0), (0, 2), (4, 2), (1, 3)]), *LOOKS, ("turn",), ("turn",), *LOOKS)
-        self.assertEqual(found[5:10], found[12:])
+        self.assertEqual(found[5:5 + len(LOOKS)], found[-len(LOOKS):])
 
     def test_what_was_a_ring_can_be_told(self):
         found = ask(*telling(3, [(0, 1), (1, 2)]), ("turn",), ("tell", 0, 2), ("tell", 2, 0), ("told",))

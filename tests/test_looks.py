@@ -1,6 +1,6 @@
 import unittest
 
-from tests.helper import GREATEST, LOOKS, ask, last, telling
+from tests.helper import GREATEST, Unchanged, ask, last, telling
 
 BRANCHES = [(4, 2), (2, 0), (4, 0), (2, 3), (1, 3)]
 
@@ -106,12 +106,38 @@ class Past(unittest.TestCase):
                 self.assertEqual(last(("begin", size), ("past", wrong)), [-2])
 
 
-class LookingChangesNothing(unittest.TestCase):
+class First(unittest.TestCase):
+
+    def test_rising(self):
+        self.assertEqual(last(*telling(5, BRANCHES), ("first",)), [2, 1, 4])
+
+    def test_nothing_told_all_are(self):
+        for size in range(1, 7):
+            self.assertEqual(last(("begin", size), ("first",)), [size] + list(range(size)))
+
+    def test_all_in_one_row(self):
+        self.assertEqual(last(*telling(6, [(5, 4), (4, 3), (3, 2), (2, 1), (1, 0)]), ("first",)), [1, 5])
+
+    def test_as_it_is_told_untold_and_turned(self):
+        found = ask(("begin", 3), ("tell", 2, 0), ("first",), ("tell", 2, 1), ("first",), ("turn",), ("first",),
+                    ("untell", 0, 2), ("first",), ("without", 1), ("first",))
+        self.assertEqual(found[2::2], [[2, 1, 2], [1, 2], [2, 0, 1], [2, 0, 1], [2, 0, 1]])
+
+
+class LookingChangesNothing(Unchanged):
 
     def test_each_look(self):
-        looks = [("told",), ("heard", 4, 3), ("heard", 0, 5), ("heard", 1, 1), ("pairs",), ("past", 3),
-                 ("past", GREATEST), ("links",), ("orders",), ("order", 2), ("order", GREATEST)]
-        for look in looks:
-            found = ask(*telling(5, BRANCHES), *LOOKS, look, look, *LOOKS)
-            self.assertEqual(found[6:11], found[13:])
-            self.assertEqual(found[11], found[12])
+        looks = {
+            ("told",): [5, 4, 2, 2, 0, 4, 0, 2, 3, 1, 3], ("heard", 4, 3): [1], ("heard", 0, 5): [-2],
+            ("heard", 1, 1): [1], ("pairs",): [6, 1, 3, 2, 0, 2, 3, 4, 0, 4, 2, 4, 3], ("past", 3): [3, 1, 2, 4],
+            ("past", GREATEST): [-2], ("links",): [4, 1, 3, 2, 0, 2, 3, 4, 2], ("orders",): [7],
+            ("order", 2): [5, 4, 1, 2, 0, 3], ("order", GREATEST): [-2], ("first",): [2, 1, 4],
+            ("sooner", 0, 3): [4, 7], ("sooner", 0, 5): [-2], ("sooner", 1, 1): [-22],
+            ("place", 1): [5, 2, 2, 2, 1, 0], ("place", 5): [-2],
+            ("line",): [10, 1, 4, 2, 3, 0, 4, 2, 0, 1, 3], ("events",): [5, 4, 2, 0, 3, 2, 1, 3, 4, 1, 0],
+            ("fewest",): [2], ("row",): [3, 0, 2, 4], ("apart",): [2, 0, 1], ("state",): [5, 5, 5],
+        }
+        for look, wanted in looks.items():
+            self.assertEqual(self.changes_nothing(telling(5, BRANCHES), look), wanted, look)
+        for row, wanted in (([4, 2, 1, 3, 0], 1), ([0, 1, 2, 3, 4], 0), ([], -22), ([4, 2, 1, 3, 65535], -22)):
+            self.assertEqual(self.changes_nothing(telling(5, BRANCHES), ("fits", row)), [wanted])
